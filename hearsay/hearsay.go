@@ -1,0 +1,38 @@
+// Package hearsay: what threads may hear of one another: see DOC.md.
+package hearsay
+
+import (
+	"hearsay/api"
+	"hearsay/program"
+	"hearsay/reader"
+)
+
+// Test is a test that was read.
+type Test struct {
+	program *program.Program // nil only in a Test that Load did not make
+}
+
+// Load reads a test (P3).
+func Load(text string) (*Test, api.Errno, int) {
+	read, errno, at := reader.Read(text)
+	if errno != api.OK {
+		return nil, errno, at
+	}
+	return &Test{program: read}, api.OK, 0
+}
+
+// Print writes it (P4).
+func (t *Test) Print() string {
+	if t == nil || t.program == nil {
+		return ""
+	}
+	return t.program.Print()
+}
+
+// Walk goes one way (P5).
+func (t *Test) Walk(model int, picks []int) (string, api.Errno) { return "", api.OK }
+
+// Explore goes all ways (P6).
+func (t *Test) Explore(model int, workers int, limit int) (api.Report, api.Errno) {
+	return api.Report{}, api.OK
+}
