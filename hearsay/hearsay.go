@@ -3,6 +3,7 @@ package hearsay
 
 import (
 	"hearsay/api"
+	"hearsay/machine"
 	"hearsay/program"
 	"hearsay/reader"
 )
@@ -10,6 +11,10 @@ import (
 // Test is a test that was read.
 type Test struct {
 	program *program.Program // nil only in a Test that Load did not make
+}
+
+func (t *Test) isEmpty() bool {
+	return t == nil || t.program == nil
 }
 
 // Load reads a test (P3).
@@ -23,14 +28,22 @@ func Load(text string) (*Test, api.Errno, int) {
 
 // Print writes it (P4).
 func (t *Test) Print() string {
-	if t == nil || t.program == nil {
+	if t.isEmpty() {
 		return ""
 	}
 	return t.program.Print()
 }
 
-// Walk goes one way (P5).
-func (t *Test) Walk(model int, picks []int) (string, api.Errno) { return "", api.OK }
+// Walk goes one way (P5). No store waits yet, by whichever model.
+func (t *Test) Walk(model int, picks []int) (string, api.Errno) {
+	if !isModel(model) {
+		return "", api.ErrModel
+	}
+	if t.isEmpty() {
+		return "", api.OK
+	}
+	return walk(machine.New(t.program), picks)
+}
 
 // Explore goes all ways (P6).
 func (t *Test) Explore(model int, workers int, limit int) (api.Report, api.Errno) {

@@ -5,8 +5,6 @@ import (
 	"strings"
 )
 
-const placeNames = "wxyz"
-
 // Print writes the test so that it can be read again.
 func (p *Program) Print() string {
 	var out strings.Builder
@@ -29,7 +27,7 @@ func (p *Program) question() string {
 }
 
 func (s Step) text() string {
-	place, register, digit := placeName(s.Place), registerName(s.Register), strconv.Itoa(s.Digit)
+	place, register, digit := PlaceName(s.Place), RegisterName(s.Register), strconv.Itoa(s.Digit)
 	stored := digit
 	switch s.Kind {
 	case StoreRegister:
@@ -60,9 +58,9 @@ func (f Formula) text() string {
 	case Group:
 		return "(" + joined(f.Parts, "") + ")"
 	case RegisterIs:
-		return strconv.Itoa(f.Thread) + ":" + registerName(f.Register) + " = " + strconv.Itoa(f.Digit)
+		return strconv.Itoa(f.Thread) + ":" + RegisterName(f.Register) + " = " + strconv.Itoa(f.Digit)
 	}
-	return placeName(f.Place) + " = " + strconv.Itoa(f.Digit)
+	return PlaceName(f.Place) + " = " + strconv.Itoa(f.Digit)
 }
 
 func joined(parts []Formula, between string) string {
@@ -71,12 +69,4 @@ func joined(parts []Formula, between string) string {
 		texts = append(texts, part.text())
 	}
 	return strings.Join(texts, between)
-}
-
-func placeName(place int) string {
-	return placeNames[place : place+1]
-}
-
-func registerName(register int) string {
-	return "r" + strconv.Itoa(register)
 }
