@@ -34,7 +34,7 @@ func (t *Test) Print() string {
 	return t.program.Print()
 }
 
-// Walk goes one way (P5). No store waits yet, by whichever model.
+// Walk goes one way (P5).
 func (t *Test) Walk(model int, picks []int) (string, api.Errno) {
 	if !isModel(model) {
 		return "", api.ErrModel
@@ -42,7 +42,7 @@ func (t *Test) Walk(model int, picks []int) (string, api.Errno) {
 	if t.isEmpty() {
 		return "", api.OK
 	}
-	return walk(machine.New(t.program), picks)
+	return walk(machine.New(t.program, model), picks)
 }
 
 // Explore goes all ways (P6).

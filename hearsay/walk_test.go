@@ -209,22 +209,28 @@ func anyPick(source *rand.Rand) int {
 	return source.Intn(13) - 6
 }
 
+// manyPicks is as many as a walk can need: each step, and the flush of its store.
+const manyPicks = 2 * api.MaxThreads * api.MaxSteps
+
 func TestWalkAgainstRunner(t *testing.T) {
 	source := rand.New(rand.NewSource(5))
-	for range 5000 {
+	for range 3000 {
 		text := anyTest(source)
 		if len(text) > api.MaxTest {
 			continue
 		}
-		picks := make([]int, api.MaxThreads*api.MaxSteps)
-		for i := range picks {
-			picks[i] = anyPick(source)
+		script := scriptOf(text)
+		for n := range 9 {
+			model, picks := api.SC+n%3, make([]int, manyPicks)
+			for i := range picks {
+				picks[i] = anyPick(source)
+			}
+			want, _, used := script.walked(model, picks)
+			checkWalk(t, text, model, picks, want, api.OK)
+			checkWalk(t, text, model, picks[:used], want, api.OK)
+			checkWalk(t, text, model, picks[:used-1], "", api.ErrPicks)
+			checkWalk(t, text, model, picks[:source.Intn(used)], "", api.ErrPicks)
 		}
-		want, _, used := walked(text, picks)
-		checkWalk(t, text, api.SC, picks, want, api.OK)
-		checkWalk(t, text, api.SC, picks[:used], want, api.OK)
-		checkWalk(t, text, api.SC, picks[:used-1], "", api.ErrPicks)
-		checkWalk(t, text, api.SC, picks[:source.Intn(used)], "", api.ErrPicks)
 	}
 }
 
@@ -237,9 +243,11 @@ func TestWalkOfGrownTexts(t *testing.T) {
 			continue
 		}
 		right++
-		picks := source.Perm(api.MaxThreads * api.MaxSteps)
-		want, _, _ := walked(text, picks)
-		checkWalk(t, text, api.SC, picks, want, api.OK)
+		script, picks := scriptOf(text), source.Perm(manyPicks)
+		for _, model := range []int{api.SC, api.TSO, api.PSO} {
+			want, _, _ := script.walked(model, picks)
+			checkWalk(t, text, model, picks, want, api.OK)
+		}
 	}
 	if right < 100 {
 		t.Errorf("only %d of the grown texts are right", right)
@@ -276,14 +284,16 @@ func TestWalkOfNoTest(t *testing.T) {
 
 func TestWalkHangsOnNoEarlierWalk(t *testing.T) {
 	test, _, _ := Load(storeBuffering)
+	script := scriptOf(storeBuffering)
 	for range 3 {
-		for n := range 16 {
-			picks := []int{n & 1, n >> 1 & 1, n >> 2 & 1, n >> 3 & 1}
-			want, _, _ := walked(storeBuffering, picks)
-			if got, errno := test.Walk(api.SC, picks); got != want || errno != api.OK {
-				t.Errorf("P1: Walk by %v = %q, %d, want %q", picks, got, errno, want)
+		for n := range 64 {
+			model := api.SC + n%3
+			picks := []int{n & 1, n >> 1 & 1, n >> 2 & 1, n >> 3 & 1, n >> 4 & 1, n >> 5 & 1}
+			want, _, _ := script.walked(model, picks)
+			if got, errno := test.Walk(model, picks); got != want || errno != api.OK {
+				t.Errorf("P1: Walk(%d, %v) = %q, %d, want %q", model, picks, got, errno, want)
 			}
-			test.Walk(api.SC, picks[:n%4])
+			test.Walk(api.PSO, picks[:n%6])
 			test.Walk(-n, picks)
 		}
 	}
@@ -294,14 +304,22 @@ func TestWalkHangsOnNoEarlierWalk(t *testing.T) {
 
 func TestWalksAtATime(t *testing.T) {
 	test, _, _ := Load(threeStores)
-	picks := [][]int{{0, 0, 0}, {2, 1, 0}, {-2, 0, 0}, {0, 1}}
-	want := []string{"x=3", "x=1", "x=2", ""}
+	cases := []struct {
+		model int
+		picks []int
+		want  string
+	}{
+		{api.SC, []int{0, 0, 0}, "x=3"}, {api.SC, []int{2, 1, 0}, "x=1"}, {api.SC, []int{0, 1}, ""},
+		{api.TSO, []int{0, 1, 2, 2, 1, 0}, "x=1"}, {api.TSO, []int{0, 1, 2, 0, 0, 0}, "x=3"},
+		{api.PSO, []int{0, 1, 2, 2, 0, 0}, "x=2"}, {api.PSO, []int{0, 1, 2, 2, 0}, ""},
+	}
 	var group sync.WaitGroup
-	for i := range 16 {
+	for i := range 3 * len(cases) {
+		c := cases[i%len(cases)]
 		group.Go(func() {
 			for range 200 {
-				if got, _ := test.Walk(api.SC, picks[i%4]); got != want[i%4] {
-					t.Errorf("P2: Walk by %v = %q, want %q", picks[i%4], got, want[i%4])
+				if got, _ := test.Walk(c.model, c.picks); got != c.want {
+					t.Errorf("P2: Walk(%d, %v) = %q, want %q", c.model, c.picks, got, c.want)
 				}
 			}
 		})

@@ -6,15 +6,17 @@ import (
 	"hearsay/program"
 )
 
-// Machine runs a program. It keeps no state, so that several goroutines may use
-// it at a time.
+// Machine runs a program by a model. It keeps no state, so that several
+// goroutines may use it at a time.
 type Machine struct {
 	program *program.Program
+	model   int
 }
 
 type thread struct {
 	next      uint8 // which step comes next
 	registers [program.Registers]uint8
+	waiting   buffer
 }
 
 // State is where a machine has come to. It is a plain value: a move makes a new
@@ -24,14 +26,9 @@ type State struct {
 	places  [program.Places]uint8
 }
 
-// Move is one thing that can happen in a state.
-type Move struct {
-	Thread int
-}
-
-// New gives the machine of a program.
-func New(p *program.Program) Machine {
-	return Machine{program: p}
+// New gives the machine of a program, by one of the models of package api.
+func New(p *program.Program, model int) Machine {
+	return Machine{program: p, model: model}
 }
 
 // First is the state that everything begins with.
@@ -39,25 +36,18 @@ func (m Machine) First() State {
 	return State{}
 }
 
-// Moves tells what can happen in a state, in the order in which picks count it.
-func (m Machine) Moves(s State) []Move {
-	var moves []Move
-	for i, steps := range m.program.Threads {
-		if int(s.threads[i].next) < len(steps) {
-			moves = append(moves, Move{Thread: i})
-		}
-	}
-	return moves
-}
-
 // After gives the state that one of a state's moves leads to.
 func (m Machine) After(s State, move Move) State {
+	if move.Flushes {
+		s.flush(move.Thread, move.Store)
+		return s
+	}
 	next := s.threads[move.Thread].next
-	s.do(move.Thread, m.program.Threads[move.Thread][next])
+	m.do(&s, move.Thread, m.program.Threads[move.Thread][next])
 	return s
 }
 
-func (s *State) do(number int, step program.Step) {
+func (m Machine) do(s *State, number int, step program.Step) {
 	t := &s.threads[number]
 	t.next++
 	value := uint8(step.Digit)
@@ -66,12 +56,15 @@ func (s *State) do(number int, step program.Step) {
 		value = t.registers[step.Register]
 		fallthrough
 	case program.StoreDigit:
-		s.places[step.Place] = value
+		t.waiting.add(store{place: uint8(step.Place), value: value})
+		if m.model == api.SC {
+			s.flush(number, 0)
+		}
 	case program.Load:
-		t.registers[step.Register] = s.places[step.Place]
+		t.registers[step.Register] = s.seen(number, step.Place)
 	case program.Set:
 		t.registers[step.Register] = value
-	case program.Swap:
+	case program.Swap: // no store of the thread waits, so it sees the memory
 		t.registers[step.Register] = s.places[step.Place]
 		s.places[step.Place] = value
 	case program.Skip:
@@ -79,4 +72,18 @@ func (s *State) do(number int, step program.Step) {
 			t.next += uint8(step.Count)
 		}
 	}
+}
+
+// flush brings one of a thread's waiting stores to memory.
+func (s *State) flush(number, at int) {
+	gone := s.threads[number].waiting.take(at)
+	s.places[gone.place] = gone.value
+}
+
+// seen tells what a thread finds in a place: its own stores ahead of the memory.
+func (s *State) seen(number, place int) uint8 {
+	if value, waits := s.threads[number].waiting.newest(place); waits {
+		return value
+	}
+	return s.places[place]
 }
