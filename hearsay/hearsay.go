@@ -3,6 +3,7 @@ package hearsay
 
 import (
 	"hearsay/api"
+	"hearsay/explorer"
 	"hearsay/machine"
 	"hearsay/program"
 	"hearsay/reader"
@@ -47,5 +48,26 @@ func (t *Test) Walk(model int, picks []int) (string, api.Errno) {
 
 // Explore goes all ways (P6).
 func (t *Test) Explore(model int, workers int, limit int) (api.Report, api.Errno) {
-	return api.Report{}, api.OK
+	if !isModel(model) {
+		return api.Report{}, api.ErrModel
+	}
+	if !isWithin(workers, api.MaxWorkers) || !isWithin(limit, api.MaxStates) {
+		return api.Report{}, api.ErrArg
+	}
+	if t.isEmpty() {
+		return api.Report{}, api.OK
+	}
+	return explorer.Explore(machine.New(t.program, model), workers, limit)
+}
+
+func isModel(model int) bool {
+	switch model {
+	case api.SC, api.TSO, api.PSO:
+		return true
+	}
+	return false
+}
+
+func isWithin(number, most int) bool {
+	return 1 <= number && number <= most
 }

@@ -5,14 +5,6 @@ import (
 	"hearsay/machine"
 )
 
-func isModel(model int) bool {
-	switch model {
-	case api.SC, api.TSO, api.PSO:
-		return true
-	}
-	return false
-}
-
 // walk makes the moves that the picks tell, up to a final state.
 func walk(m machine.Machine, picks []int) (string, api.Errno) {
 	state := m.First()
